@@ -1,0 +1,1 @@
+"""A journal of double entries."""
