@@ -24,6 +24,8 @@ MOST_NAME_SIGNS = 31
 MOST_WHOLE_DIGITS = 14
 MOST_REST_DIGITS = 4
 MOST_KIND_SIGNS = 8
+# The amount 1, in the ten-thousandths that amounts are counted in.
+ONE = 10000
 
 
 def parts_of(row, mark):
@@ -62,6 +64,16 @@ def words_of(line):
     """What stands in a line between its blanks."""
     spaced = [SPACE if byte == TAB else byte for byte in line]
     return [word for word in parts_of(spaced, SPACE) if len(word) > 0]
+
+
+def line_of(words):
+    """The line that tells the words, a blank between each and a line feed behind them."""
+    line = []
+    for word in words:
+        line.extend(word)
+        line.append(SPACE)
+    line[-1] = LINE_FEED
+    return line
 
 
 def is_digit(byte):
@@ -133,6 +145,26 @@ def is_account(row):
     return len(names) <= MOST_NAMES and all([is_name(name) for name in names])
 
 
+def is_within(account, outer):
+    """Whether an account is the outer one or has its names and more; where the outer one is empty, all are."""
+    if len(outer) == 0:
+        return True
+    # With a colon behind both, an outer one that only begins a name is not taken for that name.
+    names = outer + (COLON,)
+    return (account + (COLON,))[:len(names)] == names
+
+
+def first_names(account, depth):
+    """An account's first names, as many as depth says, or all if it has fewer."""
+    names = 0
+    for place, byte in enumerate(account):
+        if byte == COLON:
+            names += 1
+            if names == depth:
+                return account[:place]
+    return account
+
+
 def is_kind(row):
     return 1 <= len(row) <= MOST_KIND_SIGNS and all([is_capital(byte) for byte in row])
 
@@ -171,3 +203,12 @@ def amount_of(row):
     rest = parts[1] if len(parts) == 2 else []
     size = number_of(parts[0] + rest + [ZERO] * (MOST_REST_DIGITS - len(rest)))
     return -size if is_minus(row) else size
+
+
+def told_amount(amount):
+    """The bytes that tell an amount of ten-thousandths, with no more digits behind the point than it needs."""
+    sign = "-" if amount < 0 else ""
+    whole = abs(amount) // ONE
+    rest = str(abs(amount) % ONE).zfill(MOST_REST_DIGITS).rstrip("0")
+    point = "." if len(rest) > 0 else ""
+    return [ord(letter) for letter in f"{sign}{whole}{point}{rest}"]

@@ -1,8 +1,8 @@
-"""What the tests share: journals as Python's texts, and asking check for them."""
+"""What the tests share: journals as Python's texts, and asking check and balance for them."""
 
 import unittest
 
-from evenbook.journal import check
+from evenbook.journal import balance, check
 
 EXAMPLE = """2026-01-05 opening
   assets:cash     100.00 EUR
@@ -12,6 +12,9 @@ EXAMPLE = """2026-01-05 opening
   expenses:food    12.34 EUR
   assets:cash
 """
+
+LAST_DAY = "9999-12-31"
+MOST_INT = 2147483647
 
 EVEN = "2026-01-01\n a 1 EUR\n b -1 EUR\n"
 
@@ -69,3 +72,16 @@ class CheckCase(unittest.TestCase):
         self.wrong(text + EVEN, line)
         self.wrong(text + "\n#\n" + EVEN, line + 2)
         self.wrong(text + "not a day\n", line)
+
+
+class BalanceCase(unittest.TestCase):
+    def balance(self, text, account="", depth=8, day=LAST_DAY, most=MOST_INT):
+        return balance(depth, most, bytes_of(text), bytes_of(account), bytes_of(day))
+
+    def told(self, text, lines, **asked):
+        """These lines are told."""
+        rows = bytes_of("".join([line + "\n" for line in lines]))
+        self.assertEqual(self.balance(text, **asked), [len(rows)] + rows, (text[-400:], asked))
+
+    def refused(self, text, refusal, **asked):
+        self.assertEqual(self.balance(text, **asked), [refusal], (text[-400:], asked))
