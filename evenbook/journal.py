@@ -19,8 +19,9 @@ class Entry:
     def __init__(self, day):
         self.day = day
         self.written = 0
-        # The account of the movement without an amount, once there is one.
+        # The account of the movement without an amount, once there is one, and its place among all movements.
         self.lacking = None
+        self.lacking_place = 0
         self.sums = {}
 
     def add_amount(self, kind, amount):
@@ -70,6 +71,7 @@ class Book:
         if self.entry.lacking is not None:
             return False
         self.entry.lacking = account
+        self.entry.lacking_place = len(self.movements)
         return True
 
     def take_amount(self, account, amount_word, kind_word):
@@ -78,10 +80,10 @@ class Book:
         kind = tuple(kind_word)
         amount = amount_of(amount_word)
         self.entry.add_amount(kind, amount)
-        return self.add_movement(account, kind, amount)
+        return self.add_movement(len(self.movements), account, kind, amount)
 
-    def add_movement(self, account, kind, amount):
-        self.movements.append((self.entry.day, account, kind, amount))
+    def add_movement(self, place, account, kind, amount):
+        self.movements.insert(place, (self.entry.day, account, kind, amount))
         self.sizes[kind] = self.sizes.get(kind, 0) + abs(amount)
         if len(self.movements) > MOST_MOVEMENTS or len(self.sizes) > MOST_KINDS:
             return False
@@ -93,13 +95,17 @@ class Book:
             return True
         if entry.written < LEAST_IN_ENTRY:
             return False
-        # What an entry wants is known, and so counted, only where it ends.
-        wanting = entry.wanting()
         if entry.lacking is None:
-            return len(wanting) == 0
-        for kind, amount in wanting:
-            if not self.add_movement(entry.lacking, kind, amount):
+            return len(entry.wanting()) == 0
+        return self.add_wanting(entry)
+
+    def add_wanting(self, entry):
+        # What an entry wants is known, and so counted, only where it ends; but it stands where its line stands.
+        place = entry.lacking_place
+        for kind, amount in entry.wanting():
+            if not self.add_movement(place, entry.lacking, kind, amount):
                 return False
+            place += 1
         return True
 
 
@@ -120,7 +126,7 @@ def can_be_asked(account, day):
 
 
 def movements_within(book, account, day):
-    """A journal's movements of the account, and of those within it, up to the day."""
+    """A journal's movements of the account, and of those within it, up to the day, as they stand."""
     outer = tuple(account)
     last = tuple(day)
     return [movement for movement in book.movements if movement[0] <= last and is_within(movement[1], outer)]
@@ -142,6 +148,21 @@ def told_sums(sums):
         amount = sums[(account, kind)]
         if amount != 0:
             told.extend(line_of([account, told_amount(amount), kind]))
+    return told
+
+
+def in_order_of_days(movements):
+    """The movements by their days, those of the same day as they stood."""
+    return sorted(movements, key=lambda movement: movement[0])
+
+
+def told_movements(movements):
+    """The bytes of a line for each movement, with what all of them up to it come to of its kind."""
+    told = []
+    sums = {}
+    for day, account, kind, amount in movements:
+        sums[kind] = sums.get(kind, 0) + amount
+        told.extend(line_of([day, account, told_amount(amount), kind, told_amount(sums[kind])]))
     return told
 
 
@@ -169,3 +190,14 @@ def balance(depth, most, text, account, day):
         return [-2]
     sums = sums_at(depth, movements_within(book, account, day))
     return answer_of(told_sums(sums), most)
+
+
+def moves(most, text, account, day):
+    """The movements of the account and of those within it up to the day, with what it has after each, or a refusal."""
+    book = Book()
+    if error_line(book, text) > 0:
+        return [-1]
+    if not can_be_asked(account, day):
+        return [-2]
+    movements = in_order_of_days(movements_within(book, account, day))
+    return answer_of(told_movements(movements), most)

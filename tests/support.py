@@ -1,8 +1,8 @@
-"""What the tests share: journals as Python's texts, and asking check and balance for them."""
+"""What the tests share: journals as Python's texts, and asking check, balance and moves for them."""
 
 import unittest
 
-from evenbook.journal import balance, check
+from evenbook.journal import balance, check, moves
 
 EXAMPLE = """2026-01-05 opening
   assets:cash     100.00 EUR
@@ -15,6 +15,8 @@ EXAMPLE = """2026-01-05 opening
 
 LAST_DAY = "9999-12-31"
 MOST_INT = 2147483647
+LEAST_INT = -2147483648
+MOST_BYTES = 65536
 
 EVEN = "2026-01-01\n a 1 EUR\n b -1 EUR\n"
 
@@ -30,6 +32,10 @@ def capital_word(number):
 
 def entry(movements, day="2026-01-01"):
     return "".join([day + "\n"] + [f" {movement}\n" for movement in movements])
+
+
+# Days the wrong way round, and movements without an amount ahead of the others.
+OUT_OF_ORDER = entry(["b", "a 1 A"], "2026-01-02") + entry(["c", "a 2 B", "a 1 A"])
 
 
 def zero_entries(count):
@@ -74,14 +80,33 @@ class CheckCase(unittest.TestCase):
         self.wrong(text + "not a day\n", line)
 
 
-class BalanceCase(unittest.TestCase):
-    def balance(self, text, account="", depth=8, day=LAST_DAY, most=MOST_INT):
-        return balance(depth, most, bytes_of(text), bytes_of(account), bytes_of(day))
+def shown(answer):
+    """The beginning of an answer, with what is told as a text."""
+    return answer[:1], bytes(answer[1:2000]).decode("latin-1")
+
+
+class ToldCase(unittest.TestCase):
+    """For a call that tells lines: those that come of it have an `ask` that makes the call."""
 
     def told(self, text, lines, **asked):
         """These lines are told."""
         rows = bytes_of("".join([line + "\n" for line in lines]))
-        self.assertEqual(self.balance(text, **asked), [len(rows)] + rows, (text[-400:], asked))
+        self.same(self.ask(text, **asked), [len(rows)] + rows, (text[-400:], asked))
 
     def refused(self, text, refusal, **asked):
-        self.assertEqual(self.balance(text, **asked), [refusal], (text[-400:], asked))
+        self.same(self.ask(text, **asked), [refusal], (text[-400:], asked))
+
+    def same(self, answer, expected, where):
+        # assertEqual would show how long answers differ, and take hours for that.
+        if answer != expected:
+            self.fail(f"{shown(answer)} instead of {shown(expected)} for {where}")
+
+
+class BalanceCase(ToldCase):
+    def ask(self, text, account="", depth=8, day=LAST_DAY, most=MOST_INT):
+        return balance(depth, most, bytes_of(text), bytes_of(account), bytes_of(day))
+
+
+class MovesCase(ToldCase):
+    def ask(self, text, account="", day=LAST_DAY, most=MOST_INT):
+        return moves(most, bytes_of(text), bytes_of(account), bytes_of(day))

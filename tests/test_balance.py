@@ -42,12 +42,12 @@ class Example(BalanceCase):
             self.at_each_depth(account, [], [])
 
     def test_without_the_last_line_feed(self):
-        self.assertEqual(self.balance(EXAMPLE[:-1]), self.balance(EXAMPLE))
+        self.assertEqual(self.ask(EXAMPLE[:-1]), self.ask(EXAMPLE))
 
     def test_its_bytes(self):
         # Written out, so that nothing of the tests' own stands between.
         self.assertEqual(
-            self.balance(EXAMPLE, account="assets:cash", depth=1),
+            self.ask(EXAMPLE, account="assets:cash", depth=1),
             [17, 97, 115, 115, 101, 116, 115, 32, 56, 55, 46, 54, 54, 32, 69, 85, 82, 10],
         )
 

@@ -3,9 +3,7 @@ import time
 import unittest
 
 from evenbook.journal import check
-from tests.support import EVEN, EXAMPLE, bytes_of, entry, zero_entries
-
-MOST_BYTES = 65536
+from tests.support import EVEN, EXAMPLE, MOST_BYTES, bytes_of, entry, zero_entries
 
 
 def filled(text, filling):
