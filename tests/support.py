@@ -97,7 +97,7 @@ class ToldCase(unittest.TestCase):
         self.same(self.ask(text, **asked), [refusal], (text[-400:], asked))
 
     def same(self, answer, expected, where):
-        # assertEqual would show how long answers differ, and take hours for that.
+        # assertEqual would show how long answers differ, which takes many minutes.
         if answer != expected:
             self.fail(f"{shown(answer)} instead of {shown(expected)} for {where}")
 
